@@ -6,6 +6,7 @@ import (
 
 	"weighhouse/api"
 	"weighhouse/bounds"
+	"weighhouse/copies"
 	"weighhouse/plan"
 )
 
@@ -66,15 +67,7 @@ func Put(p api.Plan, on [][]int, bin, good, n int) ([][]int, api.Errno) {
 	if lies := on[bin][good]; !bounds.Within(n, -lies, api.MaxUnits-lies) {
 		return nil, api.ErrRange
 	}
-	after := copyRows(on)
+	after := copies.Rows(on)
 	after[bin][good] += n
 	return after, api.OK
-}
-
-func copyRows(on [][]int) [][]int {
-	rows := make([][]int, len(on))
-	for bin, row := range on {
-		rows[bin] = slices.Clone(row)
-	}
-	return rows
 }
