@@ -2,10 +2,10 @@
 package plan
 
 import (
-	"iter"
 	"slices"
 
 	"weighhouse/api"
+	"weighhouse/bins"
 	"weighhouse/bounds"
 )
 
@@ -30,22 +30,11 @@ func Way(p api.Plan) ([]int, api.Errno) {
 		return nil, e
 	}
 	way := make([]int, 0, len(p.Bins))
-	for bin := range binsOf(p, true) {
+	for bin := range bins.Of(p, true) {
 		way = append(way, bin)
 	}
-	for bin := range binsOf(p, false) {
+	for bin := range bins.Of(p, false) {
 		way = append(way, bin)
 	}
 	return way, api.OK
-}
-
-// binsOf goes through the bins that are in front, or through those that are not, rising.
-func binsOf(p api.Plan, front bool) iter.Seq[int] {
-	return func(yield func(int) bool) {
-		for bin, b := range p.Bins {
-			if b.Front == front && !yield(bin) {
-				return
-			}
-		}
-	}
 }

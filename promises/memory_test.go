@@ -51,9 +51,12 @@ func ints(l []int, spare bool) []*int {
 }
 
 // untouched tells whether a state is as the sample, with its spare room.
-func untouched(s api.State) bool {
+func untouched(s api.State) bool { return alike(s, sample.State()) }
+
+// alike tells whether two states have the same numbers, those in the spare room of their lists too.
+func alike(a, b api.State) bool {
 	same := func(a, b *int) bool { return *a == *b }
-	return slices.EqualFunc(numbers(s, true), numbers(sample.State(), true), same)
+	return slices.EqualFunc(numbers(a, true), numbers(b, true), same)
 }
 
 // apart tells whether no two lists of these states share memory. It writes over all of them: where two share some, a number that was written first is gone.

@@ -8,11 +8,14 @@ import (
 	"weighhouse/alloc"
 	"weighhouse/api"
 	"weighhouse/copies"
+	"weighhouse/fill"
+	"weighhouse/pick"
 	"weighhouse/plan"
 	"weighhouse/recv"
 	"weighhouse/sample"
 	"weighhouse/shelf"
 	"weighhouse/state"
+	"weighhouse/wave"
 )
 
 // act is one that answers a state.
@@ -37,6 +40,13 @@ func acts() []act {
 		{"Enter", func(p api.Plan, s api.State) (api.State, api.Errno) {
 			return recv.Enter(p, s, []api.Line{{Want: 1}, {Good: 1, Want: 2}})
 		}},
+		{"Release", wave.Release},
+		{"Cancel of what is released", func(p api.Plan, s api.State) (api.State, api.Errno) { return wave.Cancel(p, s, 0) }},
+		{"Cancel of what is entered", func(p api.Plan, s api.State) (api.State, api.Errno) { return wave.Cancel(p, s, 1) }},
+		{"Pick of all", func(p api.Plan, s api.State) (api.State, api.Errno) { return pick.Pick(p, s, 0, 1, 2, 6) }},
+		{"Pick of some", func(p api.Plan, s api.State) (api.State, api.Errno) { return pick.Pick(p, s, 0, 0, 1, 1) }},
+		{"Fill", fill.Fill},
+		{"Moved", func(p api.Plan, s api.State) (api.State, api.Errno) { return fill.Moved(p, s, 0, 4) }},
 	}
 }
 
@@ -117,6 +127,50 @@ func TestP2TakeIsNewMemory(t *testing.T) {
 		t.Fatalf("Take is %v %d %d", x, left, e)
 	}
 	if !reflect.DeepEqual(s, before) || s.Holds[:4][3] != (api.Hold{}) {
+		t.Errorf("what was handed in is %v now", s)
+	}
+	if !apart(s, x) {
+		t.Error("the answer shares memory")
+	}
+}
+
+// lacking is the sample with nothing of the second good held: six are to be had then, of which the front gets four.
+func lacking() api.State {
+	s := sample.State()
+	s.Orders[0].Lines[1].Back, s.Holds = 9, s.Holds[:2]
+	return s
+}
+
+// An added move goes into a list that was handed in with spare room.
+func TestP2FillIsNewMemory(t *testing.T) {
+	s := lacking()
+	x, e := fill.Fill(sample.Plan(), s)
+	if e != api.OK || len(x.Moves) != 2 || x.Moves[1] != (api.Move{Good: 1, From: 2, To: 1, N: 4}) {
+		t.Fatalf("Fill is %v %d", x, e)
+	}
+	if !alike(s, lacking()) {
+		t.Errorf("what was handed in is %v now", s)
+	}
+	if !apart(s, x) {
+		t.Error("the answer shares memory")
+	}
+}
+
+// closing is the sample with an order of one line, of which the last piece is held.
+func closing() api.State {
+	s := lacking()
+	s.Orders[1] = api.Order{Kind: api.Released, Lines: []api.Line{{Good: 1, Want: 2, Got: 1}}}
+	s.Holds = append(s.Holds, api.Hold{Order: 1, Line: 0, Bin: 2, N: 1})
+	return s
+}
+
+func TestP2PickOfTheLastPieceIsNewMemory(t *testing.T) {
+	s := closing()
+	x, e := pick.Pick(sample.Plan(), s, 1, 0, 2, 1)
+	if e != api.OK || x.Orders[1].Kind != api.Closed {
+		t.Fatalf("Pick is %v %d", x, e)
+	}
+	if !alike(s, closing()) {
 		t.Errorf("what was handed in is %v now", s)
 	}
 	if !apart(s, x) {
