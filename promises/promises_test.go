@@ -7,7 +7,9 @@ import (
 
 	"weighhouse/alloc"
 	"weighhouse/api"
+	"weighhouse/book"
 	"weighhouse/copies"
+	"weighhouse/count"
 	"weighhouse/fill"
 	"weighhouse/pick"
 	"weighhouse/plan"
@@ -47,6 +49,10 @@ func acts() []act {
 		{"Pick of some", func(p api.Plan, s api.State) (api.State, api.Errno) { return pick.Pick(p, s, 0, 0, 1, 1) }},
 		{"Fill", fill.Fill},
 		{"Moved", func(p api.Plan, s api.State) (api.State, api.Errno) { return fill.Moved(p, s, 0, 4) }},
+		{"Count of more", func(p api.Plan, s api.State) (api.State, api.Errno) { return count.Count(p, s, 0, 1, 9) }},
+		{"Count that cuts a move", func(p api.Plan, s api.State) (api.State, api.Errno) { return count.Count(p, s, 0, 0, 4) }},
+		{"Count that cuts all there", func(p api.Plan, s api.State) (api.State, api.Errno) { return count.Count(p, s, 0, 0, 0) }},
+		{"Count that holds elsewhere", func(p api.Plan, s api.State) (api.State, api.Errno) { return count.Count(p, s, 1, 0, 0) }},
 	}
 }
 
@@ -204,6 +210,8 @@ func TestP2StatesAreOnlyRead(t *testing.T) {
 	state.Check(p, s)
 	state.Avail(p, s, 0, 0)
 	state.Free(p, s, 0)
+	book.Totals(p, s)
+	book.Open(p, s)
 	if !untouched(s) || !reflect.DeepEqual(p, sample.Plan()) {
 		t.Errorf("what was handed in is %v %v now", p, s)
 	}

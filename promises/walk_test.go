@@ -7,6 +7,7 @@ import (
 
 	"weighhouse/api"
 	"weighhouse/bins"
+	"weighhouse/count"
 	"weighhouse/fill"
 	"weighhouse/pick"
 	"weighhouse/recv"
@@ -35,7 +36,7 @@ func yard() api.Plan {
 
 // step does one act, which the draw chooses, and holds what comes to what the document promises of that act.
 func step(t *testing.T, p api.Plan, s api.State, d *draw) (api.State, api.Errno) {
-	switch d.below(9) {
+	switch d.below(11) {
 	case 0:
 		return recv.Enter(p, s, []api.Line{{Good: d.below(2), Want: 1 + d.below(12)}, {Good: d.below(2), Want: 1 + d.below(5)}}[:1+d.below(2)])
 	case 1:
@@ -55,6 +56,12 @@ func step(t *testing.T, p api.Plan, s api.State, d *draw) (api.State, api.Errno)
 		return fill.Moved(p, s, d.below(2), d.below(7))
 	case 5, 6:
 		return recv.Receive(p, s, d.below(5), d.below(2), 1+d.below(9))
+	case 7, 8:
+		bin, good := d.below(5), d.below(2)
+		seen := d.below(s.On[bin][good] + 3)
+		x, e := count.Count(p, s, bin, good, seen)
+		askCount(t, p, s, x, e, bin, good, seen)
+		return x, e
 	}
 	var h api.Hold
 	if len(s.Holds) > 0 {
@@ -147,6 +154,7 @@ func TestWalks(t *testing.T) {
 				t.Fatalf("of %v comes %v: Check tells %d", s, x, told)
 			}
 			s = x
+			askBook(t, p, s)
 			if len(s.Orders) == api.MaxOrders && d.below(9) == 0 {
 				s.Orders, s.Holds = nil, nil
 			}
