@@ -11,6 +11,7 @@ import (
 	"weighhouse/copies"
 	"weighhouse/count"
 	"weighhouse/fill"
+	"weighhouse/log"
 	"weighhouse/pick"
 	"weighhouse/plan"
 	"weighhouse/recv"
@@ -34,6 +35,9 @@ func acts() []act {
 			return s, e
 		}
 	}
+	do := func(x api.Act) func(api.Plan, api.State) (api.State, api.Errno) {
+		return func(p api.Plan, s api.State) (api.State, api.Errno) { return log.Do(p, s, x) }
+	}
 	return []act{
 		{"Take of nothing", take(0, 0, -1)},
 		{"Take of what is not to be had", take(1, 3, 1)},
@@ -53,6 +57,14 @@ func acts() []act {
 		{"Count that cuts a move", func(p api.Plan, s api.State) (api.State, api.Errno) { return count.Count(p, s, 0, 0, 4) }},
 		{"Count that cuts all there", func(p api.Plan, s api.State) (api.State, api.Errno) { return count.Count(p, s, 0, 0, 0) }},
 		{"Count that holds elsewhere", func(p api.Plan, s api.State) (api.State, api.Errno) { return count.Count(p, s, 1, 0, 0) }},
+		{"Do of Receive", do(api.Act{Kind: api.ActReceive, A: 2, B: 1, N: 9})},
+		{"Do of Enter", do(api.Act{Kind: api.ActEnter, Lines: []api.Line{{Want: 1}}})},
+		{"Do of Release", do(api.Act{Kind: api.ActRelease})},
+		{"Do of Cancel", do(api.Act{Kind: api.ActCancel, A: 1})},
+		{"Do of Pick", do(api.Act{Kind: api.ActPick, C: 1, N: 2})},
+		{"Do of Fill", do(api.Act{Kind: api.ActFill})},
+		{"Do of Moved", do(api.Act{Kind: api.ActMoved, N: 1})},
+		{"Do of Count", do(api.Act{Kind: api.ActCount, N: 2})},
 	}
 }
 
@@ -195,11 +207,17 @@ func TestP2EnteredLinesAreNewMemory(t *testing.T) {
 	}
 }
 
-func TestP2BeginIsNewMemory(t *testing.T) {
+func TestP2WhatBeginsIsNewMemory(t *testing.T) {
 	first, _ := state.Begin(sample.Plan())
 	second, _ := state.Begin(sample.Plan())
-	if !apart(first, second) {
-		t.Error("two that are begun share memory, or lists of one")
+	text := "\x01\x00\x00\x00\x09\x00" + "\x02\x00\x00\x00\x00\x01\x00\x04\x00\x00" + "\x03\x00\x00\x00\x00\x00" + "\x06\x00\x00\x00\x00\x00"
+	third, _, _ := log.Recover(sample.Plan(), text)
+	fourth, n, _ := log.Recover(sample.Plan(), text)
+	if n != 4 || len(fourth.Holds) == 0 || len(fourth.Moves) == 0 {
+		t.Fatalf("Recover is %v %d", fourth, n)
+	}
+	if !apart(first, second, third, fourth) {
+		t.Error("two that are begun, or recovered, share memory, or lists of one")
 	}
 }
 

@@ -9,6 +9,7 @@ import (
 	"weighhouse/bins"
 	"weighhouse/count"
 	"weighhouse/fill"
+	"weighhouse/holds"
 	"weighhouse/pick"
 	"weighhouse/recv"
 	"weighhouse/state"
@@ -68,11 +69,11 @@ func step(t *testing.T, p api.Plan, s api.State, d *draw) (api.State, api.Errno)
 		h = s.Holds[d.below(len(s.Holds))]
 	}
 	x, e := pick.Pick(p, s, h.Order, h.Line, h.Bin, d.below(h.N+2))
-	askOthers(t, s, x, e, h.Order)
+	askPick(t, p, s, x, e, h)
 	return x, e
 }
 
-// askRelease: no good is to be had while a released line lacks it, and nobody loses what was held.
+// askRelease: no good is to be had while a released line lacks it, nobody loses what was held, and who was entered first has first.
 func askRelease(t *testing.T, p api.Plan, before, after api.State, e api.Errno) {
 	if e != api.OK {
 		t.Fatalf("Release of %v tells %d", before, e)
@@ -89,6 +90,43 @@ func askRelease(t *testing.T, p api.Plan, before, after api.State, e api.Errno) 
 	for _, h := range before.Holds {
 		if !slices.ContainsFunc(after.Holds, func(x api.Hold) bool { return x.Order == h.Order && x.Line == h.Line && x.Bin == h.Bin && x.N >= h.N }) {
 			t.Fatalf("%v is no more held in %v", h, after)
+		}
+	}
+	askFirst(t, p, before, after)
+}
+
+// askFirst: where a line lacks a good, no line behind it was given any.
+func askFirst(t *testing.T, p api.Plan, before, after api.State) {
+	lacked := make([]bool, len(p.Sizes))
+	for i, o := range after.Orders {
+		for j, l := range o.Lines {
+			had, _ := holds.Kept(before.Holds, i, j)
+			has, _ := holds.Kept(after.Holds, i, j)
+			if lacked[l.Good] && has > had {
+				t.Fatalf("line %d of order %d held %d, and holds %d, though one ahead of it lacks some: %v", j, i, had, has, after)
+			}
+			if o.Kind == api.Released && l.Back > 0 {
+				lacked[l.Good] = true
+			}
+		}
+	}
+}
+
+// askPick: what is not found is looked for elsewhere, and nobody else's holds change.
+func askPick(t *testing.T, p api.Plan, before, after api.State, e api.Errno, h api.Hold) {
+	if e != api.OK {
+		return
+	}
+	askOthers(t, before, after, e, h.Order)
+	its := func(x api.Hold) bool { return x.Order == h.Order && x.Line == h.Line }
+	a, b := slices.DeleteFunc(slices.Clone(before.Holds), its), slices.DeleteFunc(slices.Clone(after.Holds), its)
+	if !slices.Equal(a, b) {
+		t.Fatalf("for other lines %v were held, and %v are", a, b)
+	}
+	l, then := before.Orders[h.Order].Lines[h.Line], after.Orders[h.Order].Lines[h.Line]
+	for bin := range p.Bins {
+		if n, _ := state.Avail(p, after, bin, l.Good); bin != h.Bin && n > 0 && then.Back > l.Back {
+			t.Fatalf("%d of %d are to be had in %d, and %v came of %v", n, l.Good, bin, then, l)
 		}
 	}
 }
